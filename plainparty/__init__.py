@@ -1,0 +1,1 @@
+"""Parties taken apart guest by guest: see plainparty.parties."""
