@@ -25,6 +25,26 @@ def count():
     return [4]
 
 
+def plan():
+    return [5]
+
+
+def crowd():
+    return [6]
+
+
+def loners():
+    return [7]
+
+
+def check_plan(*steps):
+    return [8, len(steps), *steps]
+
+
+def check_four(*four):
+    return [9, len(four), *four]
+
+
 def laid(calls):
     return [number for call in calls for number in call]
 
@@ -57,6 +77,38 @@ def answered(*calls):
 def after(before, *calls):
     """The answers of these calls alone, made behind those of the list before."""
     return answered(*before, *calls)[len(before):]
+
+
+def after_each(before, calls):
+    """The answers of calls that change nothing, made behind those of the list before: on as many lines as it takes."""
+    told = []
+    line = []
+    for call in calls:
+        if len(before) + len(line) == 60 or len(laid(before)) + len(laid(line)) + len(call) > 800:
+            told.extend(after(before, *line))
+            line = []
+        line.append(call)
+    return told + after(before, *line)
+
+
+def party_of(guests, friends):
+    """Calls after which just these guests are there, and of them just these pairs know each other."""
+    size = max(guests, default=-1) + 1
+    knows = [[v for v in range(u) if frozenset((u, v)) in friends] for u in range(size)]
+    return [*[add(*row) for row in knows], *[drop(u) for u in range(size) if u not in guests]]
+
+
+def friends_of(*pairs_who_know):
+    return {frozenset(pair) for pair in pairs_who_know}
+
+
+def in_line(*guests):
+    """Acquaintances of guests of whom each knows the next."""
+    return friends_of(*zip(guests, guests[1:]))
+
+
+def in_ring(*guests):
+    return in_line(*guests) | friends_of((guests[0], guests[-1]))
 
 
 def crowd_of(size):

@@ -8,7 +8,7 @@ from unittest import mock
 
 import plainparty
 import plainparty.parties
-from lines import TOP, add, after, answered, count, drop, link, linked
+from lines import TOP, add, after, answered, check_four, check_plan, count, crowd, drop, link, linked, loners, plan
 from lines import both_ways, crowd_of, known_pairs, laid, strangers
 from plainparty.parties import answers
 
@@ -18,7 +18,18 @@ def every_call():
     return laid([
         count(), add(), add(0, TOP), add(2, 1, 1), drop(7), drop(4), drop(0), link(1, 2, 0), link(1, 0, 1),
         link(1, 2, 2), linked(1, 2), linked(2, 2), linked(0, 1), add(1, 2), *strangers(4), add(3), count(),
+        plan(), crowd(), loners(), link(1, 3, 1), plan(), crowd(), loners(), check_plan(), check_plan(*range(12)),
+        check_plan(3, 4, TOP), check_four(2, 0, 1, 3), check_four(TOP, 0, 1, 3), check_four(), drop(2),
+        check_plan(3, 0, 0, 1, 1, 4, 4, 5, 5, 6), plan(),
     ])
+
+
+EVERY_ANSWER = [
+    [0], [0], [1], [2], [-1], [-3], [0], [0], [-3], [-1], [0], [-1], [-3], [0], [3], [4], [5], [6], [-2], [7],
+    [1, 1, 2, 0, 2, 2, 3, 3, 4, 4, 5, 5, 6], [2, 0, 1, 0, 1, 1, 0, 0, 0, 0], [6, 1, 2, 3, 4, 5, 6, 0, 0, 1, 2, 3, 4, 5],
+    [0], [0, 2, 0, 1, 3], [-4], [-4], [0], [0], [0], [1], [0], [0],
+    [0], [1], [1, 0, 3, 1, 3, 3, 4, 4, 5, 5, 6],
+]
 
 
 class Unchanging(list):
@@ -41,6 +52,13 @@ class Names(unittest.TestCase):
         self.assertEqual(answers([0, 0, 1, 0, 4]), [1, 0, 1, 0, 1, 0])
         self.assertEqual(answers([0, 0, 0, 0, 2, 0, 1, 1, 3, 1, 0]), [1, 0, 1, 1, 1, 0, 1, 1])
         self.assertEqual(answers([4]), [1, 0])
+        line = [0, 0, 0, 1, 0, 0, 1, 1]
+        told = [1, 0, 1, 1, 1, 2]
+        self.assertEqual(answers([*line, 5]), [*told, 5, 1, 0, 2, 1, 2])
+        self.assertEqual(answers([*line, 6]), [*told, 6, 2, 0, 1, 0, 1, 0])
+        self.assertEqual(answers([*line, 7]), [*told, 6, 2, 0, 2, 0, 0, 1])
+        self.assertEqual(answers([*line, 8, 4, 2, 0, 1, 0]), [*told, 1, 1])
+        self.assertEqual(answers([*line, 0, 1, 2, 9, 4, 3, 2, 1, 0]), [*told, 1, 3, 1, 1])
 
 
 class Layout(unittest.TestCase):
@@ -56,10 +74,19 @@ class Layout(unittest.TestCase):
     def test_a_row_that_looks_like_calls(self):
         self.assertEqual(answers([0, 5, 4, 4, 0, 0, 4, 4]), [1, 0, 1, 1])
         self.assertEqual(answers([0, 1, 0, 0, 2, 1, 0, 3, 0, 1]), [1, 0, 1, 1, 1, 1])
+        self.assertEqual(answers([8, 3, 4, 4, 4, 9, 4, 0, 0, 8, 0, 8, 0, 4]), [1, 0, 1, 0, 1, 1, 1, 0])
+
+    def test_answers_of_many_numbers(self):
+        self.assertEqual(answers([5, 6, 7, 4]), [1, 1, 1, 0, 1, 0, 1, 0])
+        self.assertEqual(answers([0, 0, 5, 6, 7, 4]), [1, 0, 1, 1, 3, 1, 0, 0, 3, 1, 0, 0, 1, 1])
+        told = [1, 0, 1, 1, 3, 1, 0, 1, 5, 2, 0, 1, 0, 1, 4, 1, 0, 0, 0, 1, 2]
+        self.assertEqual(answers([0, 0, 0, 1, 0, 5, 6, 7, 4]), told)
+        told = [1, 0, 1, 1, 1, 2, 1, 3, 5, 0, 0, 1, 2, 3, 1, -4, 1, -4, 1, 4]
+        self.assertEqual(answers([0, 0, 0, 1, 0, 0, 1, 1, 0, 1, 2, 5, 6, 7, 4]), told)
 
     def test_every_call(self):
-        told = [0, 0, 1, 2, -1, -3, 0, 0, -3, -1, 0, -1, -3, 0, 3, 4, 5, 6, -2, 7]
-        self.assertEqual(answers(every_call()), [number for answer in told for number in (1, answer)])
+        told = [number for answer in EVERY_ANSWER for number in (len(answer), *answer)]
+        self.assertEqual(answers(every_call()), told)
 
     def test_whole_numbers_in_a_list(self):
         told = answers(every_call())
@@ -81,6 +108,23 @@ class Size(unittest.TestCase):
         told = [0, 1, 2, 3, 4, 5, 6, *[0] * 32, *[7] * 20, -2]
         self.assertEqual(answers(line), [number for answer in told for number in (1, answer)])
 
+    def test_60_calls_of_all_kinds_with_800_numbers(self):
+        rows = [check_plan(*[0, 1] * 50), check_four(*[0, 1, 2, 3] * 25), check_plan(*[TOP] * 100), add(*[6] * 100)]
+        asked = [plan(), crowd(), loners(), count(), linked(0, 6), link(0, 6, 1), link(0, 6, 0)] * 6
+        line = [*crowd_of(7), *rows, *asked, drop(6), *[count()] * 5, check_plan(*[1] * 258)]
+        self.assertEqual((len(line), len(laid(line))), (60, 800))
+        self.assertEqual({call[0] for call in line}, set(range(10)))
+        whole = [
+            [1, 0, 1, 1, 2, 2, 3, 3, 4, 4, 5, 5, 6], [7, *range(7), *range(7)],
+            [1, 0, *[0] * 7], [7], [1], [0], [0],
+        ]
+        less = [
+            [1, 0, 6, 1, 2, 2, 3, 3, 4, 4, 5, 5, 6], [6, 0, 1, 2, 3, 4, 5, 0, 1, 2, 3, 4, 5, 0],
+            [2, 0, 6, 0, 0, 0, 0, 0, 0, 1], [7], [0], [0], [0],
+        ]
+        told = [[guest] for guest in range(7)] + [[0], [0], [0], [-2]] + whole + less * 5 + [[0], *[[6]] * 5, [0]]
+        self.assertEqual(answered(*line), told)
+
     def test_a_row_of_790_numbers(self):
         far = [TOP - number for number in range(787)]
         row = [*far[:700], 1, *far[700:], 1, 5]
@@ -97,13 +141,13 @@ class Size(unittest.TestCase):
     def test_few_calls_within_one_another(self):
         depth = len(inspect.stack(0))
         limit = sys.getrecursionlimit()
-        lines = [[0, 790, *[6] * 790], [4] * 60, [0, 0, 1, 0] * 30]
+        lines = [[0, 790, *[6] * 790], [4] * 60, [0, 0, 1, 0] * 30, [8, 790, *[0, 1] * 395], [9, 790, *[TOP] * 790]]
         sys.setrecursionlimit(depth + 30)
         try:
             told = [answers(line) for line in lines]
         finally:
             sys.setrecursionlimit(limit)
-        self.assertEqual(told, [[1, 0], [1, 0] * 60, [1, 0] * 60])
+        self.assertEqual(told, [[1, 0], [1, 0] * 60, [1, 0] * 60, [1, 0], [1, 0]])
 
 
 class Kept(unittest.TestCase):
